@@ -1,0 +1,1 @@
+"""Nodoubt: expressions that are read without a doubt."""

@@ -1,0 +1,416 @@
+"""Expressions and words for the tests, and what is right, counted part by part."""
+
+from itertools import product
+
+LETTERS = "abcd"
+
+
+def words_up_to(length, letters=LETTERS):
+    """All words with at most so many of the letters, in order by length."""
+    return ["".join(word) for many in range(length + 1) for word in product(letters, repeat=many)]
+
+
+def all_expressions(most_parts, leaves):
+    """All expressions with at most so many parts, made from the leaves."""
+    by_size = {1: list(leaves)}
+    for size in range(2, most_parts + 1):
+        made = [(word, part) for word in ("maybe", "many") for part in by_size[size - 1]]
+        for word in ("join", "or"):
+            made += [(word, row) for row in all_rows(word, size - 1, by_size) if len(row) > 1]
+        by_size[size] = made
+    return [each for size in by_size for each in by_size[size]]
+
+
+def all_rows(word, size, by_size):
+    """All tuples of expressions without this word, with so many parts together."""
+    if size == 0:
+        return [()]
+    rows = []
+    for begin in range(1, size + 1):
+        parts = [each for each in by_size.get(begin, []) if each[:1] != (word,)]
+        rows += [(part,) + row for part in parts for row in all_rows(word, size - begin, by_size)]
+    return rows
+
+
+def grown(numbers, parts, around="", leaves=("a", "b", "c", "d", "a", "b", "")):
+    """An expression with about so many parts, as the numbers (a Random) tell."""
+    if parts <= 1:
+        return numbers.choice(leaves)
+    words = [word for word in ("join", "or", "join", "or", "maybe", "many") if word != around]
+    word = numbers.choice(words)
+    if word in ("maybe", "many"):
+        return (word, grown(numbers, parts - 1, "", leaves))
+    many = numbers.randint(2, 4)
+    return (word, tuple(grown(numbers, (parts - 1) // many, word, leaves) for _ in range(many)))
+
+
+def leaf_letters(expression):
+    """The letters of the places, from left to right."""
+    if isinstance(expression, str):
+        return expression
+    word, inner = expression
+    parts = inner if word in ("join", "or") else (inner,)
+    return "".join(leaf_letters(part) for part in parts)
+
+
+def depth(expression):
+    if isinstance(expression, str):
+        return 0
+    word, inner = expression
+    parts = inner if word in ("join", "or") else (inner,)
+    return 1 + max(depth(part) for part in parts)
+
+
+def part_count(expression):
+    if isinstance(expression, str):
+        return 1
+    word, inner = expression
+    parts = inner if word in ("join", "or") else (inner,)
+    return 1 + sum(part_count(part) for part in parts)
+
+
+def joined(first, second, length):
+    return {one + other for one in first for other in second if len(one + other) <= length}
+
+
+def repeated(base, length):
+    found = {()}
+    latest = {()}
+    while latest:
+        latest = joined(latest, base, length) - found
+        found |= latest
+    return found
+
+
+def right_tuples(expression, length, symbols):
+    """What is right, with at most so many symbols: the next one stands for each letter."""
+    if expression == "":
+        return {()}
+    if isinstance(expression, str):
+        symbol = next(symbols)
+        return {(symbol,)} if length > 0 else set()
+    word, inner = expression
+    if word == "maybe":
+        return {()} | right_tuples(inner, length, symbols)
+    if word == "many":
+        return repeated(right_tuples(inner, length, symbols), length)
+    found = set() if word == "or" else {()}
+    for part in inner:
+        right = right_tuples(part, length, symbols)
+        found = found | right if word == "or" else joined(found, right, length)
+    return found
+
+
+def right_words(expression, length):
+    """The set of all right words with at most so many letters."""
+    tuples = right_tuples(expression, length, iter(leaf_letters(expression)))
+    return {"".join(word) for word in tuples}
+
+
+def all_markings(expression, length):
+    """The set of all markings of words with at most so many letters."""
+    return right_tuples(expression, length, iter(range(len(leaf_letters(expression)))))
+
+
+def word_of(expression, marking):
+    letters = leaf_letters(expression)
+    return "".join(letters[place] for place in marking)
+
+
+def picked_word(expression, numbers, around=0):
+    """A right word, as the numbers (a Random) tell; of any length."""
+    if isinstance(expression, str):
+        return expression
+    word, inner = expression
+    if word == "join":
+        return "".join(picked_word(part, numbers, around) for part in inner)
+    if word == "or":
+        return picked_word(numbers.choice(inner), numbers, around)
+    # Within others a "many" is not gone through often, or the word would have no end.
+    times = numbers.randint(0, 3 if word == "many" and around < 2 else 1)
+    return "".join(picked_word(inner, numbers, around + 1) for _ in range(times))
+
+
+def right_by_cuts(expression, word):
+    """Whether the word is right, by where a part's words can end that begin at a letter."""
+    known = {}
+
+    def ends(part, start):
+        if (id(part), start) not in known:
+            known[id(part), start] = sorted(ends_anew(part, start))
+        return known[id(part), start]
+
+    def ends_anew(part, start):
+        if isinstance(part, str):
+            return {start + len(part)} if word.startswith(part, start) else set()
+        kind, inner = part
+        if kind == "or":
+            return {end for each in inner for end in ends(each, start)}
+        found = {start}
+        if kind == "join":
+            for each in inner:
+                found = {end for begin in found for end in ends(each, begin)}
+            return found
+        if kind == "maybe":
+            return found | set(ends(inner, start))
+        latest = [start]
+        while latest:
+            latest = sorted({end for begin in latest for end in ends(inner, begin)} - found)
+            found |= set(latest)
+        return found
+
+    return len(word) in ends(expression, 0)
+
+
+def words_about(expression, numbers):
+    """Right words of at most 24 letters, if any is picked, some that are nearly right, and others."""
+    picked = [picked_word(expression, numbers) for _ in range(20)]
+    right = sorted({word for word in picked if len(word) <= 24})
+    near = [word[:-1] + numbers.choice(LETTERS) for word in right if word]
+    near += [word[1:] for word in right] + [(word + numbers.choice(LETTERS))[:24] for word in right]
+    lengths = [numbers.randint(0, 24) for _ in range(10)]
+    return right + near + ["".join(numbers.choice("ab") for _ in range(many)) for many in lengths]
+
+
+def wrapped(word, times, inside):
+    """The expression in so many "maybe" or "many"."""
+    for _ in range(times):
+        inside = (word, inside)
+    return inside
+
+
+def deep_tuple(levels):
+    """A value nested so deep, which has the form of an expression but for its depth."""
+    return wrapped("maybe", levels, "a")
+
+
+def deep_list(levels):
+    value = []
+    for _ in range(levels):
+        value = [value]
+    return value
+
+
+def deep_row(levels):
+    """Tuples of one item within one another."""
+    value = ()
+    for _ in range(levels):
+        value = (value,)
+    return value
+
+
+# Forty places, forty deep and two hundred parts at once.
+LARGEST = ("or", (wrapped("many", 39, "a"),) + ("b",) * 39 + ("",) * 120)
+
+LONGEST = [
+    "a",
+    "",
+    ("join", ("a", "b")),
+    ("join", ("a",) * 40),
+    ("or", ("a",) * 40),
+    ("or", ("",) * 199),
+    wrapped("maybe", 40, "a"),
+    wrapped("many", 40, ""),
+    LARGEST,
+]
+
+NO_EXPRESSIONS = [
+    None,
+    True,
+    False,
+    0,
+    1,
+    -1,
+    10 ** 30,
+    "e",
+    "A",
+    "ab",
+    "aa",
+    "abcd",
+    " ",
+    "a\n",
+    "join",
+    (),
+    [],
+    ("a",),
+    ["a"],
+    ("a", "b"),
+    ("", ""),
+    ("join",),
+    ("join", ()),
+    ("or", ()),
+    ("join", ("a",)),
+    ("or", ("a",)),
+    ("join", ("",)),
+    ("join", "ab"),
+    ("or", "ab"),
+    ("join", "a"),
+    ("or", ""),
+    ("join", "a", "b"),
+    ("join", ("a", "b"), "a"),
+    ("join", ("a", "b"), None),
+    ("or", ("a", "b"), ()),
+    ("maybe", "a", "a"),
+    ("many", "a", None),
+    ("maybe",),
+    ("maybe", ()),
+    ("maybe", ("a",)),
+    ("many", ("a", "b")),
+    ("many", None),
+    ("many", True),
+    ("many", 0),
+    ("maybe", "ab"),
+    ("maybe", "e"),
+    ("join", ["a", "b"]),
+    ("or", ["a", "b"]),
+    ["join", ("a", "b")],
+    ["many", "a"],
+    ("many", ["a"]),
+    ("many", ["maybe", "a"]),
+    ("join", (("a",), "b")),
+    ("join", ("a", ("b",))),
+    ("or", (("a", "b"), "c")),
+    ("join", ("a", None)),
+    ("join", (True, "a")),
+    ("or", (1, "a")),
+    ("or", ("a", "e")),
+    ("or", ("ab", "c")),
+    ("and", ("a", "b")),
+    ("Join", ("a", "b")),
+    ("", ("a", "b")),
+    ("MANY", "a"),
+    ("many ", "a"),
+    (None, "a"),
+    (True, "a"),
+    (0, ("a", "b")),
+    (("many",), "a"),
+    (["many"], "a"),
+    ("join", ("a", ("join", ("b", "c")))),
+    ("join", (("join", ("a", "b")), "c")),
+    ("or", ("a", ("or", ("b", "c")))),
+    ("or", (("or", ("a", "b")), "c")),
+    ("many", ("join", ("a", ("join", ("b", "c"))))),
+    ("join", ("a", ("join", ()))),
+    ("or", ("a", ("or", "b"))),
+    ("or", ("a", ())),
+    deep_tuple(5000),
+    deep_list(5000),
+    deep_row(5000),
+    ("join", (deep_tuple(3000), "a")),
+    (deep_row(3000), "a"),
+    ("or", (deep_row(3000), deep_list(3000))),
+    ("or", ("a",) * 100000),
+    b"a",
+    1.5,
+    {"a": 1},
+]
+
+NOT_LONG = NO_EXPRESSIONS + [
+    ("join", ("a",) * 41),
+    ("or", ("a",) * 20 + (("join", ("b",) * 21),)),
+    ("or", ("",) * 200),
+    ("or", ("a",) * 40 + ("",) * 160),
+    wrapped("maybe", 41, "a"),
+    wrapped("many", 41, ""),
+    deep_tuple(1000),
+]
+
+NO_WORDS = [
+    None,
+    True,
+    False,
+    0,
+    7,
+    "e",
+    "abx",
+    "A",
+    "a b",
+    "ab\n",
+    " ",
+    "a" * 25,
+    "abcd" * 6 + "a",
+    "a" * 100000,
+    (),
+    [],
+    ("a",),
+    ["a"],
+    ["a", "b"],
+    ("a", "b"),
+    deep_tuple(1000),
+    deep_list(1000),
+    b"a",
+]
+
+# What is judged can be any value; these have wrong forms for every judge.
+STRANGE = [
+    None,
+    True,
+    False,
+    0,
+    1,
+    -1,
+    10 ** 30,
+    "",
+    "a",
+    "ab",
+    [],
+    [0],
+    [()],
+    [(0,)],
+    (None,),
+    (True,),
+    (False,),
+    ("",),
+    ("a",),
+    (0, None),
+    (None, 0),
+    (-1,),
+    (-1, -1),
+    (10 ** 30,),
+    ((-1,),),
+    ((10 ** 30,),),
+    ((None,),),
+    ((True,),),
+    ((False,),),
+    (("a",),),
+    ("0",),
+    ([0],),
+    ((0, None), (0,)),
+    (None, None),
+    (((),),),
+    (((0,),),),
+    deep_tuple(1000),
+    deep_list(1000),
+    deep_row(1000),
+    (deep_row(1000),),
+    (deep_list(1000), deep_tuple(1000)),
+    (0,) * 100000,
+    ((0,) * 100000,),
+    b"",
+    1.5,
+    (0.0,),
+    ((0.0,),),
+    {},
+    {0: 1},
+]
+
+
+def assert_bad_values(case, function, names, good, wrong):
+    """Each wrong value alone, and with all later arguments wrong, is told by its name.
+
+    good has a right value for each name, wrong a list of wrong values.
+    """
+    from nodoubt.errors import BadValue, DoubtError
+
+    for at, name in enumerate(names):
+        for value in wrong[name]:
+            right = [good[each] for each in names[at + 1:]]
+            laters = [right, [wrong[each][0] for each in names[at + 1:]]]
+            laters.append([wrong[each][-1] for each in names[at + 1:]])
+            for later in laters:
+                arguments = [good[each] for each in names[:at]] + [value] + later
+                with case.assertRaises(BadValue) as caught:
+                    function(*arguments)
+                case.assertEqual(caught.exception.name, name)
+                case.assertIsInstance(caught.exception, DoubtError)
+                case.assertIsInstance(caught.exception, ValueError)

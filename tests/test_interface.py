@@ -1,0 +1,50 @@
+"""The names, files and arguments of the interface, and point 2."""
+
+import importlib
+import inspect
+import unittest
+
+INTERFACE = {
+    "nodoubt.errors": {
+        "BadValue": ["name"], "TooLarge": ["what"], "NotPossible": ["why"], "TextError": ["column", "words"],
+    },
+    "nodoubt.expressions": {
+        "is_expression": ["value"], "is_long": ["value"], "is_word": ["value"], "matches": ["expression", "word"],
+        "places": ["expression"], "sizes": ["expression"],
+    },
+    "nodoubt.simple": {
+        "turned": ["expression"], "renamed": ["expression", "order"], "simple": ["expression"],
+        "least_length": ["expression"], "greatest_length": ["expression"],
+    },
+    "nodoubt.markings": {
+        "first_places": ["expression"], "last_places": ["expression"], "following": ["expression", "place"],
+        "candidates": ["expression", "word"], "count_markings": ["expression", "word"],
+        "first_marking": ["expression", "word"], "is_marking": ["expression", "word", "value"],
+        "wrong_evidence": ["expression", "word"], "accepts_wrong": ["expression", "word", "value"],
+    },
+}
+
+ARGUMENTS = {
+    "expression": ("many", ("or", ("a", "b", ("maybe", "a")))), "word": "aba", "order": "bcda", "place": 1,
+    "value": (0, 1, 0),
+}
+
+
+class Interface(unittest.TestCase):
+    def test_names(self):
+        for module, names in INTERFACE.items():
+            found = importlib.import_module(module)
+            for name, arguments in names.items():
+                function = getattr(found, name)
+                self.assertEqual(function.__module__, module)
+                self.assertEqual(list(inspect.signature(function).parameters), arguments)
+
+    def test_equal_calls_return_equal_results(self):
+        for module, names in INTERFACE.items():
+            if module != "nodoubt.errors":
+                for name, arguments in names.items():
+                    function = getattr(importlib.import_module(module), name)
+                    given = {each: ARGUMENTS[each] for each in arguments}
+                    first = function(**given)
+                    self.assertEqual(function(*given.values()), first)
+                    self.assertEqual(given, {each: ARGUMENTS[each] for each in arguments})
