@@ -23,9 +23,7 @@ def is_long(value):
 
 def is_word(value):
     """Returns True if the value is a word."""
-    if not isinstance(value, str) or len(value) > MOST_LETTERS:
-        return False
-    return all([letter in LETTERS for letter in value])
+    return is_text(value, MOST_LETTERS)
 
 
 def matches(expression, word):
@@ -45,6 +43,24 @@ def sizes(expression):
     """Returns how many places, how deep and how many parts the expression has."""
     check_long(expression)
     return _sizes_within(expression, LONG_BOUNDS)
+
+
+def is_letter(value):
+    """Returns True if the value is a letter."""
+    return isinstance(value, str) and len(value) == 1 and value in LETTERS
+
+
+def is_text(value, most):
+    """Returns True if the value is a string of at most so many letters, or of any number of them for None."""
+    if not isinstance(value, str) or (most is not None and len(value) > most):
+        return False
+    return all([letter in LETTERS for letter in value])
+
+
+def check_expression(value, name="expression"):
+    """Raises BadValue with the name if the value is not an expression."""
+    if not is_expression(value):
+        raise BadValue(name)
 
 
 def check_long(value):
@@ -83,7 +99,7 @@ def _sizes_within(value, bounds):
 def _parts_of(value):
     """Returns the parts directly in the value, or None if it has no form of an expression."""
     if isinstance(value, str):
-        return () if value == "" or _is_letter(value) else None
+        return () if value == "" or is_letter(value) else None
     if not isinstance(value, tuple) or len(value) != 2 or not isinstance(value[0], str):
         return None
     word, inner = value
@@ -92,10 +108,6 @@ def _parts_of(value):
     if (word == "join" or word == "or") and _is_row(word, inner):
         return inner
     return None
-
-
-def _is_letter(text):
-    return len(text) == 1 and text in LETTERS
 
 
 def _is_row(word, value):

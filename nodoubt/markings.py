@@ -2,7 +2,7 @@
 
 from nodoubt.errors import BadValue
 from nodoubt.expressions import check_long, check_word
-from nodoubt.steps import candidates_of, is_place, is_right, places_behind, steps_of
+from nodoubt.steps import candidates_of, is_place, is_right, is_row, places_behind, steps_of
 
 
 def first_places(expression):
@@ -119,21 +119,9 @@ def accepts_wrong(expression, word, value):
         return not steps.empty
     needed = steps.first
     for letter, row in zip(word, value):
-        if not _is_row(steps, letter, row):
+        if not is_row(steps, row) or any([steps.letters[place] != letter for place in row]):
             return False
         if any([steps.letters[place] == letter and place not in row for place in needed]):
             return False
         needed = places_behind(steps, row)
     return not any([place in steps.last for place in value[-1]])
-
-
-def _is_row(steps, letter, value):
-    """Returns True if the value is an ascending tuple of places with the letter."""
-    if not isinstance(value, tuple):
-        return False
-    before = -1
-    for place in value:
-        if not is_place(steps, place) or place <= before or steps.letters[place] != letter:
-            return False
-        before = place
-    return True

@@ -58,10 +58,10 @@ def _simple(part):
         return _simple_maybe(_simple(inner))
     if word == "many":
         return _simple_many(_simple(inner))
-    parts = _opened(word, [_simple(each) for each in inner])
+    parts = [_simple(each) for each in inner]
     if word == "join":
-        return _row("join", [each for each in parts if each != ""])
-    return _simple_or(parts)
+        return join_of(parts)
+    return _simple_or(opened_parts("or", parts))
 
 
 def _simple_maybe(part):
@@ -85,11 +85,16 @@ def _simple_or(parts):
             kept.append(each)
     others = [each for each in kept if each != ""]
     if any([_least(each) == 0 for each in others]):
-        return _row("or", others)
-    return _row("or", kept)
+        return row_of("or", others)
+    return row_of("or", kept)
 
 
-def _opened(word, parts):
+def join_of(parts):
+    """Returns the "join" of the parts, but without empty ones and without a "join" in it."""
+    return row_of("join", [each for each in opened_parts("join", parts) if each != ""])
+
+
+def opened_parts(word, parts):
     """Returns the list of the parts, those with the word replaced by their own parts."""
     opened = []
     for each in parts:
@@ -104,7 +109,7 @@ def _has_word(part, word):
     return isinstance(part, tuple) and part[0] == word
 
 
-def _row(word, parts):
+def row_of(word, parts):
     """Returns the parts with the word before them, where a single part needs none."""
     if len(parts) == 0:
         return ""

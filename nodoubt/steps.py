@@ -84,9 +84,35 @@ def _link(rows, ends, begins):
             rows[end][begin] = True
 
 
+def is_number(value, least, most):
+    """Returns True if the value is an integer within the bounds; True and False are none."""
+    return isinstance(value, int) and not isinstance(value, bool) and least <= value <= most
+
+
 def is_place(steps, value):
     """Returns True if the value is a place of the expression."""
-    return isinstance(value, int) and not isinstance(value, bool) and 0 <= value < len(steps.letters)
+    return is_number(value, 0, len(steps.letters) - 1)
+
+
+def is_row(steps, value):
+    """Returns True if the value is an ascending tuple of places of the expression."""
+    if not isinstance(value, tuple):
+        return False
+    before = -1
+    for place in value:
+        if not is_place(steps, place) or place <= before:
+            return False
+        before = place
+    return True
+
+
+def by_letter(steps, near):
+    """Returns a dict from the letters that some of the ascending places have to the tuple of these."""
+    rows = {}
+    for place in near:
+        letter = steps.letters[place]
+        rows[letter] = rows.get(letter, ()) + (place,)
+    return rows
 
 
 def places_behind(steps, row):

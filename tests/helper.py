@@ -1,5 +1,7 @@
 """Expressions and words for the tests, and what is right, counted part by part."""
 
+import random
+from functools import lru_cache
 from itertools import product
 
 LETTERS = "abcd"
@@ -172,6 +174,99 @@ def words_about(expression, numbers):
     return right + near + ["".join(numbers.choice("ab") for _ in range(many)) for many in lengths]
 
 
+def is_empty_right(expression):
+    if isinstance(expression, str):
+        return expression == ""
+    word, inner = expression
+    if word == "join":
+        return all(is_empty_right(part) for part in inner)
+    return word != "or" or any(is_empty_right(part) for part in inner)
+
+
+def rows_behind(row, letter):
+    """What can still come behind the letter: rows of expressions, if a row of them is there before it."""
+    if not row:
+        return set()
+    part, rest = row[0], row[1:]
+    found = rows_behind(rest, letter) if is_empty_right(part) else set()
+    if isinstance(part, str):
+        return found | ({rest} if part == letter else set())
+    word, inner = part
+    if word == "many":
+        rest = row
+    rows = [(each,) for each in inner] if word == "or" else [inner if word == "join" else (inner,)]
+    return found | {each + rest for one in rows for each in rows_behind(one, letter)}
+
+
+@lru_cache(maxsize=None)
+def told_automaton(expression):
+    """The automaton of the expression (points 41 to 43), by what can come behind the letters of words."""
+    sets, moves = [frozenset([(expression,)])], []
+    for at, rows in enumerate(sets):
+        for letter in LETTERS:
+            behind = frozenset(each for row in rows for each in rows_behind(row, letter))
+            if behind:
+                if behind not in sets:
+                    sets.append(behind)
+                moves.append((at, letter, sets.index(behind)))
+    ends = [any(all(is_empty_right(part) for part in row) for row in rows) for rows in sets]
+    return merged_automaton(ends, moves)
+
+
+def merged_automaton(ends, moves):
+    """The automaton with the same words: without two states that no word tells apart, numbered as they are found."""
+    to = {(start, letter): end for start, letter, end in moves}
+    states = range(-1, len(ends))
+    told = {(one, other) for one in states for other in states
+            if (one >= 0 and ends[one]) != (other >= 0 and ends[other])}
+    before = None
+    while before != len(told):
+        before = len(told)
+        told |= {(one, other) for one in states for other in states for letter in LETTERS
+                 if (to.get((one, letter), -1), to.get((other, letter), -1)) in told}
+    of = {state: min(other for other in states if (state, other) not in told) for state in states}
+    found, rows = [of[0]], []
+    for start in found:
+        for letter in LETTERS:
+            end = of[to.get((start, letter), -1)]
+            if end != -1:
+                if end not in found:
+                    found.append(end)
+                rows.append((found.index(start), letter, found.index(end)))
+    return tuple(ends[state] for state in found), tuple(sorted(rows))
+
+
+def run(automaton, word, state=0):
+    """The state to which the word leads, or -1."""
+    to = {(start, letter): end for start, letter, end in automaton[1]}
+    for letter in word:
+        state = to.get((state, letter), -1)
+    return state
+
+
+def takes(automaton, word, state=0):
+    end = run(automaton, word, state)
+    return end != -1 and automaton[0][end]
+
+
+def larger_ones(seed, many, most_parts=120, long=True, leaves=("a", "b", "c", "d", "a", "b", "")):
+    """Expressions as the seed tells, with some places: long ones, or those within the bounds of point 6."""
+    numbers = random.Random(seed)
+    found = [grown(numbers, numbers.randint(6, most_parts), "", leaves) for _ in range(many)]
+    places, deep, parts = (40, 40, 200) if long else (8, 6, 24)
+    return [each for each in found if 0 < len(leaf_letters(each)) <= places and depth(each) <= deep
+            and part_count(each) <= parts]
+
+
+def parts_within(expression):
+    """The expression, and everything that it is made of."""
+    if isinstance(expression, str):
+        return [expression]
+    word, inner = expression
+    parts = inner if word in ("join", "or") else (inner,)
+    return [expression] + [each for part in parts for each in parts_within(part)]
+
+
 def wrapped(word, times, inside):
     """The expression in so many "maybe" or "many"."""
     for _ in range(times):
@@ -313,6 +408,31 @@ NOT_LONG = NO_EXPRESSIONS + [
     wrapped("maybe", 41, "a"),
     wrapped("many", 41, ""),
     deep_tuple(1000),
+]
+
+NOT_SHORT = NOT_LONG + [
+    ("join", ("a",) * 9),
+    ("or", (("join", ("a",) * 5), ("join", ("b",) * 4))),
+    ("or", ("",) * 24),
+    ("or", ("a",) * 8 + ("",) * 16),
+    wrapped("maybe", 7, "a"),
+    wrapped("many", 7, ""),
+    LARGEST,
+]
+
+# Its automaton has 40 states.
+LARGE = ("or", (("many", "a"), ("many", ("join", (("or", ("a", "b")), ("maybe", "a"), "a", "a", "a", "a")))))
+
+# Its automaton has 43 states: a number of letters is right if it is a sum of sevens and eights.
+HUGE = ("many", ("join", ("a",) * 7 + (("maybe", "a"),)))
+
+# Their automata have 42 states and more.
+TOO_LARGE = [
+    ("join", (("maybe", ("join", (("many", "a"), "b"))),
+              ("many", ("join", ("a", ("maybe", "a"), "a", "a", "a", "a"))))),
+    HUGE,
+    ("many", ("join", (("maybe", "d"),) + ("d",) * 7)),
+    ("maybe", ("many", ("join", ("c",) * 4 + (("or", ("c", "")),) + ("c",) * 3))),
 ]
 
 NO_WORDS = [

@@ -35,6 +35,54 @@ MARKINGS = '''
 (False, True, False)
 '''
 
+DOUBTS = '''
+>>> from nodoubt.doubts import accepts_doubt, accepts_guide, conflicts, doubt_word, first_doubt, guide, is_sure, places_read
+>>> some = ("or", (("many", ("join", ("a", "b"))), "a"))
+>>> is_sure(some), conflicts(some), first_doubt(some), doubt_word(some)
+(False, [(0, 2)], ((), 0, 2), 'a')
+>>> late = ("join", (("or", ("b", "a")), ("or", ("c", ("join", ("c", "a"))))))
+>>> first_doubt(late), doubt_word(late), accepts_doubt(late, ((0,), 2, 3)), accepts_doubt(late, ((0,), 3, 2))
+(((1,), 2, 3), 'ac', True, False)
+>>> clear = ("join", (("many", "a"), "b", ("or", ("c", "d"))))
+>>> guide(clear)
+((('a', 0), ('b', 1)), ((('a', 0), ('b', 1)), (('c', 2), ('d', 3)), (), ()))
+>>> accepts_guide(clear, guide(clear)), guide(some) is None, places_read(clear, "aabda")
+(True, True, (0, 0, 1, 3))
+'''
+
+AUTOMATA = '''
+>>> from nodoubt.automata import automaton_of, count_words, first_words, is_automaton, state_behind
+>>> from nodoubt.judging import accepts_automaton, automaton_evidence
+>>> again = ("join", (("many", "a"), "a"))
+>>> automaton_of(again), first_words(again)
+(((False, True), ((0, 'a', 1), (1, 'a', 1))), ('', 'a'))
+>>> ends = ("join", (("many", ("or", ("a", "b"))), "a"))
+>>> automaton_of(ends)
+((False, True), ((0, 'a', 1), (0, 'b', 0), (1, 'a', 1), (1, 'b', 0)))
+>>> state_behind(ends, "abb"), state_behind(again, "ab") is None, count_words(ends, 5), count_words(again, 0)
+(0, True, 16, 0)
+>>> accepts_automaton(ends, automaton_of(ends), automaton_evidence(ends))
+True
+>>> accepts_automaton(again, automaton_of(again), (((1, (0, 1)),), ((0, 1, ""),)))
+True
+>>> accepts_automaton("a", ((False, True), ((0, "a", 1),)), (((1, (0,)),), ((0, 1, "a"),)))
+True
+>>> accepts_automaton("a", ((False, True), ((0, "a", 1),)), (((1, (0,)),), ())), is_automaton(((True,), ((0, "a", 1),)))
+(False, False)
+'''
+
+COMPARING = '''
+>>> from nodoubt.comparing import accepts_equal, accepts_included, accepts_telling, are_equal, is_included, telling_word, told_relation
+>>> even = ("many", ("join", ("a", "b")))
+>>> odd = ("join", (even, ("maybe", "a")))
+>>> is_included(even, odd), are_equal(even, odd), telling_word(even, odd)
+(True, False, 'a')
+>>> told_relation(even, odd), accepts_included(even, odd, told_relation(even, odd)), accepts_equal(even, odd, told_relation(even, odd))
+(((-1, -1), (0, 0), (1, 1)), True, False)
+>>> accepts_telling(even, odd, "aba"), accepts_telling(even, odd, "abab")
+(True, False)
+'''
+
 POINT_18 = '''
 >>> from nodoubt.expressions import matches, places, sizes
 >>> some = ("join", (("many", "a"), "b", ("or", ("c", "d"))))
@@ -56,6 +104,34 @@ POINT_29 = '''
 ((1,), (0,))
 '''
 
+POINT_40 = '''
+>>> from nodoubt.doubts import conflicts, doubt_word, first_doubt, is_sure
+>>> conflicts(("or", (("many", ("join", ("a", "b"))), "a")))
+[(0, 2)]
+>>> doubt_word(("or", (("many", ("join", ("a", "b"))), "a")))
+'a'
+>>> is_sure(("join", (("many", "a"), "b", ("or", ("c", "d")))))
+True
+'''
+
+POINT_51 = '''
+>>> from nodoubt.automata import automaton_of, first_words
+>>> again = ("join", (("many", "a"), "a"))
+>>> automaton_of(again)[0]
+(False, True)
+>>> first_words(again)
+('', 'a')
+'''
+
+POINT_61 = '''
+>>> from nodoubt.comparing import accepts_telling, telling_word
+>>> even = ("many", ("join", ("a", "b")))
+>>> telling_word(("join", (even, ("maybe", "a"))), even)
+'a'
+>>> accepts_telling(("join", (even, ("maybe", "a"))), even, "a")
+True
+'''
+
 
 class Examples(unittest.TestCase):
     def check(self, name, text):
@@ -75,3 +151,21 @@ class Examples(unittest.TestCase):
 
     def test_point_29(self):
         self.check("point 29", POINT_29)
+
+    def test_doubts(self):
+        self.check("doubts", DOUBTS)
+
+    def test_automata(self):
+        self.check("automata", AUTOMATA)
+
+    def test_comparing(self):
+        self.check("comparing", COMPARING)
+
+    def test_point_40(self):
+        self.check("point 40", POINT_40)
+
+    def test_point_51(self):
+        self.check("point 51", POINT_51)
+
+    def test_point_61(self):
+        self.check("point 61", POINT_61)

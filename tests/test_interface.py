@@ -22,11 +22,28 @@ INTERFACE = {
         "first_marking": ["expression", "word"], "is_marking": ["expression", "word", "value"],
         "wrong_evidence": ["expression", "word"], "accepts_wrong": ["expression", "word", "value"],
     },
+    "nodoubt.doubts": {
+        "is_sure": ["expression"], "conflicts": ["expression"], "first_doubt": ["expression"],
+        "doubt_word": ["expression"], "accepts_doubt": ["expression", "value"], "guide": ["expression"],
+        "accepts_guide": ["expression", "value"], "places_read": ["expression", "word"],
+    },
+    "nodoubt.automata": {
+        "is_automaton": ["value"], "automaton_of": ["expression"], "first_words": ["expression"],
+        "state_behind": ["expression", "word"], "count_words": ["expression", "length"],
+    },
+    "nodoubt.judging": {
+        "automaton_evidence": ["expression"], "accepts_automaton": ["expression", "automaton", "value"],
+    },
+    "nodoubt.comparing": {
+        "is_included": ["first", "second"], "are_equal": ["first", "second"], "telling_word": ["first", "second"],
+        "told_relation": ["first", "second"], "accepts_equal": ["first", "second", "value"],
+        "accepts_included": ["first", "second", "value"], "accepts_telling": ["first", "second", "value"],
+    },
 }
 
 ARGUMENTS = {
-    "expression": ("many", ("or", ("a", "b", ("maybe", "a")))), "word": "aba", "order": "bcda", "place": 1,
-    "value": (0, 1, 0),
+    "expression": ("many", ("or", ("a", "b"))), "word": "aba", "order": "bcda", "place": 1, "value": (0, 1, 0),
+    "length": 3, "first": ("many", "a"), "second": ("maybe", "b"), "automaton": ((True,), ((0, "a", 0),)),
 }
 
 

@@ -37,6 +37,12 @@ def nodes(path):
     return list(ast.walk(ast.parse(path.read_text())))
 
 
+def own_methods():
+    """The names of the methods that the package defines."""
+    classes = [node for path in files() for node in nodes(path) if isinstance(node, ast.ClassDef)]
+    return {node.name for each in classes for node in each.body if isinstance(node, ast.FunctionDef)}
+
+
 class Language(unittest.TestCase):
     def test_files(self):
         self.assertGreater(len(files()), 4)
@@ -87,10 +93,46 @@ class Language(unittest.TestCase):
                     self.assertIsInstance(node.ctx, ast.Load, where)
                     self.assertIn(node.id, BUILTINS, where)
                 if isinstance(node, ast.Call) and isinstance(node.func, ast.Attribute):
-                    self.assertIn(node.func.attr, METHODS, where)
+                    self.assertIn(node.func.attr, METHODS | own_methods(), where)
                 if isinstance(node, (ast.Name, ast.arg, ast.Attribute)):
                     name = getattr(node, "id", getattr(node, "arg", getattr(node, "attr", "")))
                     self.assertTrue(name == "__init__" or not re.match("__", name), where)
+
+    def test_names_of_the_module_are_not_bound_again(self):
+        for path in files():
+            found = []
+            for node in ast.parse(path.read_text()).body:
+                if isinstance(node, ast.ImportFrom):
+                    found += [each.name for each in node.names]
+                if isinstance(node, (ast.FunctionDef, ast.ClassDef)):
+                    found.append(node.name)
+                if isinstance(node, ast.Assign):
+                    found += [each.id for each in node.targets]
+            self.assertEqual(sorted(set(found)), sorted(found), path.name)
+            functions = [node for node in nodes(path) if isinstance(node, ast.FunctionDef)]
+            for node in [each for function in functions for each in ast.walk(function)]:
+                if isinstance(node, ast.Name) and isinstance(node.ctx, ast.Store):
+                    self.assertNotIn(node.id, found, (path.name, node.lineno))
+                if isinstance(node, ast.arg):
+                    self.assertNotIn(node.arg, found, (path.name, node.lineno))
+
+    def test_imported_names_are_used(self):
+        for path in files():
+            read = {node.id for node in nodes(path) if isinstance(node, ast.Name)}
+            for node in nodes(path):
+                if isinstance(node, ast.ImportFrom):
+                    self.assertEqual([each.name for each in node.names if each.name not in read], [], path.name)
+
+    def test_what_a_loop_goes_over_is_not_changed_in_it(self):
+        changing = "append clear extend insert pop remove reverse setdefault update add discard".split()
+        for path in files():
+            for loop in nodes(path):
+                if isinstance(loop, ast.For):
+                    over = {node.id for node in ast.walk(loop.iter) if isinstance(node, ast.Name)}
+                    for node in [each for row in loop.body for each in ast.walk(row)]:
+                        if isinstance(node, ast.Call) and isinstance(node.func, ast.Attribute):
+                            if node.func.attr in changing and isinstance(node.func.value, ast.Name):
+                                self.assertNotIn(node.func.value.id, over, (path.name, node.lineno))
 
     def test_words(self):
         for path in files():
