@@ -249,6 +249,113 @@ def takes(automaton, word, state=0):
     return end != -1 and automaton[0][end]
 
 
+def told_system(expression):
+    """The system of the automaton of the expression."""
+    ends, moves = told_automaton(expression)
+    return tuple(range(len(ends))), moves, tuple(state for state, end in enumerate(ends) if end)
+
+
+@lru_cache(maxsize=None)
+def told_reached(system, state):
+    """The states that are reached from the state, by going along all moves again and again."""
+    found = {state}
+    while True:
+        more = {end for start, _, end in system[1] if start in found}
+        if more <= found:
+            return tuple(sorted(found))
+        found |= more
+
+
+@lru_cache(maxsize=None)
+def told_orbit(system, state):
+    return tuple(other for other in told_reached(system, state) if state in told_reached(system, other))
+
+
+def told_orbits(system):
+    return sorted({told_orbit(system, state) for state in system[0]})
+
+
+def told_round(system, orbit):
+    return any({start, end} <= set(orbit) for start, _, end in system[1])
+
+
+def told_exits(system, state):
+    orbit = told_orbit(system, state)
+    return tuple(sorted((letter, end) for start, letter, end in system[1] if start == state and end not in orbit))
+
+
+def told_gates(system, orbit):
+    return tuple(state for state in orbit if state in system[2] or told_exits(system, state))
+
+
+def told_alike(system, one, other):
+    return (one in system[2]) == (other in system[2]) and told_exits(system, one) == told_exits(system, other)
+
+
+def told_consistent(system):
+    """The consistent letters, each with its state."""
+    found = []
+    for letter in LETTERS:
+        to = {start: end for start, by, end in system[1] if by == letter}
+        ends = {to.get(state) for state in system[2]}
+        if len(ends) == 1 and ends != {None}:
+            found.append((letter, ends.pop()))
+    return tuple(found)
+
+
+def told_cut(system):
+    letters = [letter for letter, _ in told_consistent(system)]
+    moves = tuple(move for move in system[1] if not (move[0] in system[2] and move[1] in letters))
+    return system[0], moves, system[2]
+
+
+def told_inner(system, orbit):
+    """The system to which one goes inward to an orbit of a system that is a cut."""
+    moves = tuple(move for move in system[1] if {move[0], move[2]} <= set(orbit))
+    return orbit, moves, told_gates(system, orbit)
+
+
+def random_system(numbers, most_states, letters=LETTERS):
+    """A system as the numbers (a Random) tell; often with several orbits, and with letters that are consistent."""
+    states = sorted(numbers.sample(range(40), numbers.randint(1, most_states)))
+    accepting = [state for state in states if numbers.random() < 0.4]
+    density = numbers.choice((0.3, 0.5, 0.8))
+    groups = numbers.choice((1, 2, 3))
+    group = {state: numbers.randrange(groups) for state in states}
+    to = {}
+    for state in states:
+        for letter in letters:
+            if numbers.random() < density:
+                # To an earlier group no move leads, and to a later one not often.
+                near = [end for end in states if group[end] == group[state] or
+                        (group[end] > group[state] and numbers.random() < 0.2)]
+                to[state, letter] = numbers.choice(near)
+    for letter in letters:
+        if numbers.random() < 0.3:
+            end = numbers.choice(states)
+            to.update({(state, letter): end for state in accepting})
+    return tuple(states), tuple((start, letter, end) for (start, letter), end in sorted(to.items())), tuple(accepting)
+
+
+# Each state but the last one leads to the next one by a, and back again by b.
+STAIRS = (tuple(range(40)), tuple(move for state in range(40) for move in (
+    (state, "a", state + 1), (state, "b", state - 1)) if 0 <= move[2] < 40), (0,))
+
+
+def random_stairs(numbers):
+    """Stairs of some states, with some changes, so that one can often go far inward."""
+    many = numbers.randint(3, 9)
+    to = {(start, letter): end for start, letter, end in STAIRS[1] if max(start, end) < many}
+    accepting = {0}
+    for _ in range(numbers.randint(0, 3)):
+        state = numbers.randrange(many)
+        to[state, numbers.choice("abcd")] = numbers.choice((state, state, max(state - 1, 0), numbers.randrange(many)))
+        if numbers.random() < 0.3:
+            accepting.add(numbers.randrange(many))
+    moves = tuple((start, letter, end) for (start, letter), end in sorted(to.items()))
+    return tuple(range(many)), moves, tuple(sorted(accepting))
+
+
 def larger_ones(seed, many, most_parts=120, long=True, leaves=("a", "b", "c", "d", "a", "b", "")):
     """Expressions as the seed tells, with some places: long ones, or those within the bounds of point 6."""
     numbers = random.Random(seed)

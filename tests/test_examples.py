@@ -71,8 +71,9 @@ True
 (False, False)
 '''
 
-COMPARING = '''
+LISTING = '''
 >>> from nodoubt.comparing import accepts_equal, accepts_included, accepts_telling, are_equal, is_included, telling_word, told_relation
+>>> from nodoubt.listing import count_up_to, nth_word, number_of, words_from
 >>> even = ("many", ("join", ("a", "b")))
 >>> odd = ("join", (even, ("maybe", "a")))
 >>> is_included(even, odd), are_equal(even, odd), telling_word(even, odd)
@@ -81,6 +82,53 @@ COMPARING = '''
 (((-1, -1), (0, 0), (1, 1)), True, False)
 >>> accepts_telling(even, odd, "aba"), accepts_telling(even, odd, "abab")
 (True, False)
+>>> count_up_to(odd, 4), nth_word(odd, 3), number_of(even, "abab"), number_of(even, "aba") is None
+(5, 'aba', 2, True)
+>>> words_from(odd, 2, 3), nth_word("a", 1), words_from("a", 0, 5)
+(['ab', 'aba', 'abab'], None, ['a'])
+'''
+
+ORBITS = '''
+>>> from nodoubt.orbits import consistent, cut, exits, gates, goes_round, orbits, reached, system_of, unlike_gates
+>>> system = system_of(((False, True), ((0, "a", 1), (0, "b", 0), (1, "a", 1), (1, "b", 0))))
+>>> system, orbits(system), consistent(system)
+(((0, 1), ((0, 'a', 1), (0, 'b', 0), (1, 'a', 1), (1, 'b', 0)), (1,)), [(0, 1)], (('a', 1), ('b', 0)))
+>>> cut(system), orbits(cut(system)), reached(cut(system), 0)
+(((0, 1), ((0, 'a', 1), (0, 'b', 0)), (1,)), [(0,), (1,)], (0, 1))
+>>> goes_round(cut(system), 0), goes_round(cut(system), 1), gates(cut(system), 0), exits(cut(system), 0)
+(True, False, (0,), (('a', 1),))
+>>> other = ((0, 1, 2), ((0, "a", 1), (0, "c", 2), (1, "b", 0), (1, "d", 2)), (2,))
+>>> orbits(other), gates(other, 1), unlike_gates(other), unlike_gates(system)
+([(0, 1), (2,)], (0, 1), (0, 1), None)
+'''
+
+INWARD = '''
+>>> from nodoubt.inward import accepts_reason, behind, first_reason, inward, is_path, is_smooth, is_stuck, simple_paths
+>>> smooth = ((0, 1), ((0, "a", 1), (0, "b", 0), (1, "a", 1), (1, "b", 0)), (1,))
+>>> inward(smooth, 0), is_smooth(smooth), simple_paths(smooth), is_path(smooth, (1,))
+(((0,), ((0, 'b', 0),), (0,)), True, [(), (0,)], False)
+>>> stuck = ((0, 1), ((0, "a", 1), (1, "b", 0)), (0, 1))
+>>> is_stuck(stuck), first_reason(stuck), behind(stuck, (1,)) == stuck, simple_paths(stuck)
+(True, ((), ('stuck',)), True, [()])
+>>> deeper = ((0, 1, 2), ((0, "d", 1), (1, "a", 2), (2, "b", 1)), (1, 2))
+>>> first_reason(deeper), accepts_reason(deeper, ((2,), ("stuck",))), accepts_reason(deeper, ((), ("stuck",)))
+(((1,), ('stuck',)), True, False)
+>>> doors = ((0, 1, 2), ((0, "a", 1), (0, "c", 2), (1, "b", 0), (1, "d", 2)), (2,))
+>>> first_reason(doors), accepts_reason(doors, ((), ("gates", 1, 0))), accepts_reason(doors, ((), ("gates", 0, 2)))
+(((), ('gates', 0, 1)), True, False)
+'''
+
+MAKING = '''
+>>> from nodoubt.making import count_made, made, made_behind
+>>> ends = ("join", (("many", ("or", ("a", "b"))), "a"))
+>>> made(ends)
+('join', (('many', 'b'), 'a', ('many', ('or', ('a', ('join', ('b', ('many', 'b'), 'a')))))))
+>>> count_made(ends), made_behind(ends, "a")
+(6, ('many', ('or', ('a', ('join', ('b', ('many', 'b'), 'a'))))))
+>>> made(("join", (("many", ("join", ("a", "b"))), ("maybe", "a")))), made_behind(ends, "c"), made_behind("a", "a")
+(None, None, '')
+>>> made(("or", ("a", ("join", ("a", "a"))))), made(("join", (("maybe", "a"), "b")))
+(('join', ('a', ('maybe', 'a'))), ('or', (('join', ('a', 'b')), 'b')))
 '''
 
 POINT_18 = '''
@@ -132,6 +180,38 @@ POINT_61 = '''
 True
 '''
 
+POINT_72 = '''
+>>> from nodoubt.automata import automaton_of
+>>> from nodoubt.orbits import consistent, cut, goes_round, orbits, system_of
+>>> system = system_of(automaton_of(("join", (("many", ("or", ("a", "b"))), "a"))))
+>>> system
+((0, 1), ((0, 'a', 1), (0, 'b', 0), (1, 'a', 1), (1, 'b', 0)), (1,))
+>>> consistent(system), cut(system)[1]
+((('a', 1), ('b', 0)), ((0, 'a', 1), (0, 'b', 0)))
+>>> orbits(cut(system)), goes_round(cut(system), 0), goes_round(cut(system), 1)
+([(0,), (1,)], True, False)
+'''
+
+POINT_83 = '''
+>>> from nodoubt.automata import automaton_of
+>>> from nodoubt.inward import is_stuck
+>>> from nodoubt.orbits import consistent, system_of
+>>> system = system_of(automaton_of(("join", (("many", ("join", ("a", "b"))), ("maybe", "a")))))
+>>> system
+((0, 1), ((0, 'a', 1), (1, 'b', 0)), (0, 1))
+>>> consistent(system), is_stuck(system)
+((), True)
+'''
+
+POINT_93 = '''
+>>> from nodoubt.doubts import is_sure
+>>> from nodoubt.making import made
+>>> is_sure(("join", (("many", ("or", ("a", "b"))), "a")))
+False
+>>> made(("join", (("many", ("or", ("a", "b"))), "a")))
+('join', (('many', 'b'), 'a', ('many', ('or', ('a', ('join', ('b', ('many', 'b'), 'a')))))))
+'''
+
 
 class Examples(unittest.TestCase):
     def check(self, name, text):
@@ -158,8 +238,17 @@ class Examples(unittest.TestCase):
     def test_automata(self):
         self.check("automata", AUTOMATA)
 
-    def test_comparing(self):
-        self.check("comparing", COMPARING)
+    def test_comparing_and_listing(self):
+        self.check("comparing and listing", LISTING)
+
+    def test_orbits(self):
+        self.check("orbits", ORBITS)
+
+    def test_inward(self):
+        self.check("inward", INWARD)
+
+    def test_making(self):
+        self.check("making", MAKING)
 
     def test_point_40(self):
         self.check("point 40", POINT_40)
@@ -169,3 +258,12 @@ class Examples(unittest.TestCase):
 
     def test_point_61(self):
         self.check("point 61", POINT_61)
+
+    def test_point_72(self):
+        self.check("point 72", POINT_72)
+
+    def test_point_83(self):
+        self.check("point 83", POINT_83)
+
+    def test_point_93(self):
+        self.check("point 93", POINT_93)

@@ -39,11 +39,29 @@ INTERFACE = {
         "told_relation": ["first", "second"], "accepts_equal": ["first", "second", "value"],
         "accepts_included": ["first", "second", "value"], "accepts_telling": ["first", "second", "value"],
     },
+    "nodoubt.listing": {
+        "count_up_to": ["expression", "length"], "nth_word": ["expression", "index"],
+        "number_of": ["expression", "word"], "words_from": ["expression", "index", "many"],
+    },
+    "nodoubt.orbits": {
+        "is_system": ["value"], "system_of": ["automaton"], "reached": ["system", "state"], "orbits": ["system"],
+        "goes_round": ["system", "state"], "gates": ["system", "state"], "exits": ["system", "state"],
+        "unlike_gates": ["system"], "consistent": ["system"], "cut": ["system"],
+    },
+    "nodoubt.inward": {
+        "inward": ["system", "state"], "is_path": ["system", "value"], "behind": ["system", "path"],
+        "is_stuck": ["system"], "is_smooth": ["system"], "simple_paths": ["system"], "first_reason": ["system"],
+        "accepts_reason": ["system", "value"],
+    },
+    "nodoubt.making": {
+        "made": ["expression"], "count_made": ["expression"], "made_behind": ["expression", "word"],
+    },
 }
 
 ARGUMENTS = {
     "expression": ("many", ("or", ("a", "b"))), "word": "aba", "order": "bcda", "place": 1, "value": (0, 1, 0),
     "length": 3, "first": ("many", "a"), "second": ("maybe", "b"), "automaton": ((True,), ((0, "a", 0),)),
+    "index": 5, "many": 3, "system": ((0, 1), ((0, "a", 1), (1, "b", 0)), (0, 1)), "state": 1, "path": (0, 1),
 }
 
 

@@ -1,7 +1,7 @@
 """Points 46 to 48 and 50: evidence for automata, and its judge."""
 
 import unittest
-from itertools import combinations, product
+from itertools import combinations, permutations, product
 
 from nodoubt.automata import automaton_of
 from nodoubt.errors import TooLarge
@@ -328,19 +328,21 @@ class Judge(unittest.TestCase):
         self.assertIs(accepts_automaton(("many", "a"), automaton, (naming, ())), False)
 
     def test_states_numbered_otherwise(self):
-        some = ("or", (("join", ("d", "a")), ("join", ("b", "c", "a"))))
-        ends, moves = automaton_of(some)
-        for order in [(0, 2, 1, 3), (0, 1, 3, 2), (0, 3, 2, 1), (1, 0, 2, 3), (0, 1, 2, 3)]:
-            automaton = (tuple(ends[order.index(state)] for state in range(4)),
-                         tuple(sorted((order[start], letter, order[end]) for start, letter, end in moves)))
-            naming, telling = automaton_evidence(some)
-            naming = tuple(sorted((order[state], row) for state, row in naming))
-            telling = tuple(sorted((min(order[one], order[other]), max(order[one], order[other]), word)
-                                   for one, other, word in telling))
-            self.assertTrue(are_telling_words(automaton, telling))
-            self.assertIs(accepts_automaton(some, automaton, (naming, telling)), order == (0, 1, 2, 3))
-            if order[0] == 0:
-                self.assertTrue(is_right_naming(some, automaton, naming))
+        # In the second one the state that is found last can come first and lead to the other one, too.
+        for some in (("or", (("join", ("d", "a")), ("join", ("b", "c", "a")))),
+                     ("or", (("join", ("a", "c")), ("join", ("b", "d", "c"))))):
+            ends, moves = automaton_of(some)
+            for order in permutations(range(4)):
+                automaton = (tuple(ends[order.index(state)] for state in range(4)),
+                             tuple(sorted((order[start], letter, order[end]) for start, letter, end in moves)))
+                naming, telling = automaton_evidence(some)
+                naming = tuple(sorted((order[state], row) for state, row in naming))
+                telling = tuple(sorted((min(order[one], order[other]), max(order[one], order[other]), word)
+                                       for one, other, word in telling))
+                self.assertTrue(are_telling_words(automaton, telling))
+                self.assertIs(accepts_automaton(some, automaton, (naming, telling)), order == (0, 1, 2, 3))
+                if order[0] == 0:
+                    self.assertTrue(is_right_naming(some, automaton, naming))
 
     def test_states_that_are_never_found(self):
         naming = ((1, (0,)),)
