@@ -37,7 +37,7 @@ def made(expression):
     """Returns the made expression, or None if there is a reason against it."""
     check_expression(expression)
     layer = _layer_of(small_machine_of(expression))
-    return None if layer is None else _made_in_bounds(layer, 0)
+    return None if layer is None else made_in_bounds(layer, 0)
 
 
 def count_made(expression):
@@ -54,7 +54,7 @@ def made_behind(expression, word):
     machine = small_machine_of(expression)
     layer = _layer_of(machine)
     state = machine.run(0, word)
-    return None if layer is None or state == NO_STATE else _made_in_bounds(layer, state)
+    return None if layer is None or state == NO_STATE else made_in_bounds(layer, state)
 
 
 def _layer_of(machine):
@@ -63,7 +63,7 @@ def _layer_of(machine):
     return None if find_reason(system) is not None else Layer(system)
 
 
-def _made_in_bounds(layer, state):
+def made_in_bounds(layer, state):
     """Returns what is made from the state, or raises TooLarge if it is no long expression."""
     # Only counted at first, as it could be far too long to be made.
     if _count_made(layer, state) > LONG_BOUNDS[0]:

@@ -9,7 +9,7 @@ from nodoubt.doubts import conflicts, is_sure
 from nodoubt.errors import TooLarge
 from nodoubt.expressions import is_expression, is_long, matches, sizes
 from nodoubt.inward import accepts_reason, first_reason
-from nodoubt.making import count_made, made, made_behind
+from nodoubt.making import Layer, count_made, made, made_behind, made_in_bounds
 from nodoubt.orbits import system_of
 from nodoubt.simple import greatest_length, simple
 from tests.helper import (
@@ -354,6 +354,21 @@ class Wrong(unittest.TestCase):
         self.assertIsNone(made_behind(ROW, "aaa"))
         self.assertGreater(count_made(LARGE), 40)
         self.assertIsNone(made_behind(LARGE, "bb"))
+
+    def test_too_deep(self):
+        # What is made of so few places is hardly ever so deep, so this begins with a system.
+        for states, told in ((20, True), (21, True), (22, False), (30, False)):
+            moves = tuple((state, "a", state + 1) for state in range(states - 1))
+            system = (tuple(range(states)), moves, tuple(range(states)))
+            expected = told_made(system, 0)
+            self.assertEqual(leaf_letters(expected), "a" * (states - 1))
+            self.assertIs(is_long(expected), told)
+            if told:
+                self.assertEqual(made_in_bounds(Layer(system), 0), expected)
+            else:
+                with self.assertRaises(TooLarge) as caught:
+                    made_in_bounds(Layer(system), 0)
+                self.assertEqual(caught.exception.what, "places")
 
     def test_deep_and_many_parts_are_in_the_bounds(self):
         for expression in SMALL + LARGER:
