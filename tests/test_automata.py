@@ -3,6 +3,7 @@
 import random
 import unittest
 from itertools import permutations
+from time import process_time
 
 from nodoubt.automata import automaton_of, count_words, first_words, is_automaton, state_behind
 from nodoubt.errors import TooLarge
@@ -366,3 +367,12 @@ class Wrong(unittest.TestCase):
                 with self.assertRaises(TooLarge) as caught:
                     function(expression)
                 self.assertEqual(caught.exception.what, "states")
+
+    def test_quick_to_refuse(self):
+        self.assertEqual(min(len(told_automaton(expression)[0]) for expression in TOO_LARGE), 41)
+        begin = process_time()
+        for expression in TOO_LARGE:
+            self.assertLessEqual(len(leaf_letters(expression)), 8)
+            with self.assertRaises(TooLarge):
+                automaton_of(expression)
+        self.assertLess(process_time() - begin, 2)

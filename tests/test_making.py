@@ -2,6 +2,7 @@
 
 import random
 import unittest
+from time import process_time
 
 from nodoubt.automata import automaton_of, state_behind
 from nodoubt.comparing import are_equal
@@ -242,6 +243,22 @@ class CountMade(unittest.TestCase):
                 with self.assertRaises(TooLarge) as caught:
                     function(expression)
                 self.assertEqual(caught.exception.what, "places")
+
+    def test_stays_quick(self):
+        # Each state leads to the next four: step by step far too many places would be written to count them all.
+        moves = tuple((state, letter, state + more) for state in range(40) for more, letter in enumerate(LETTERS, 1)
+                      if state + more < 40)
+        many = [0] * 40
+        for start, _, end in reversed(moves):
+            many[start] += 1 + many[end]
+        self.assertGreater(many[0], 10 ** 10)
+        with self.assertRaises(TooLarge) as caught:
+            made_in_bounds(Layer((tuple(range(40)), moves, (39,))), 0)
+        self.assertEqual(caught.exception.what, "places")
+        begin = process_time()
+        self.assertEqual(count_made(ROW), 223)
+        self.assertGreater(count_made(LARGE), 223)
+        self.assertLess(process_time() - begin, 2)
 
     def test_kinds(self):
         self.assertIs(type(count_made("a")), int)
