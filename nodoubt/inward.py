@@ -107,7 +107,17 @@ def first_reason(system):
 
 def find_reason(system):
     """Returns the first reason that a system is not smooth, or None if it is smooth."""
-    for path, latest in _systems_inward(system):
+    return _first_of(_systems_inward(system))
+
+
+def find_shortest_reason(system):
+    """Returns the first one of the reasons with the shortest simple paths, or None if the system is smooth."""
+    return _first_of(sorted(_systems_inward(system), key=lambda found: (len(found[0]), found[0])))
+
+
+def _first_of(systems):
+    """Returns the reason with the first of the paths, each with the system behind it, or None if there is none."""
+    for path, latest in systems:
         if _is_stuck(latest):
             return (path, ("stuck",))
         pair = unlike_gates_of(cut_of(latest))

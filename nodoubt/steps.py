@@ -106,6 +106,15 @@ def is_row(steps, value):
     return True
 
 
+def longer_rows(rows, many):
+    """Returns the ascending tuples of the first places, so many, that begin with one of the rows and are one longer."""
+    longer = []
+    for row in rows:
+        least = row[-1] + 1 if row else 0
+        longer.extend([row + (place,) for place in range(least, many)])
+    return longer
+
+
 def by_letter(steps, near):
     """Returns a dict from the letters that some of the ascending places have to the tuple of these."""
     rows = {}

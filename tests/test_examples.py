@@ -131,6 +131,35 @@ MAKING = '''
 (('join', ('a', ('maybe', 'a'))), ('or', (('join', ('a', 'b')), 'b')))
 '''
 
+CERTIFICATES = '''
+>>> from nodoubt.certificates import accepts, can_be_sure, certificate, shortest_never
+>>> pairs = ("join", (("many", ("join", ("a", "b"))), ("maybe", "a")))
+>>> ends = ("join", (("many", ("or", ("a", "b"))), "a"))
+>>> certificate(pairs), can_be_sure(pairs), can_be_sure(ends)
+(('never', ((), ('stuck',))), False, True)
+>>> accepts(ends, ("sure", ("join", (("many", "b"), "a", ("many", ("join", (("many", "b"), "a")))))))
+True
+>>> accepts(ends, ("sure", ends)), accepts(ends, ("sure", ("many", "a"))), accepts(pairs, ("never", ((1, 0), ("stuck",))))
+(False, False, True)
+>>> shortest_never(("join", ("d", ("many", ("join", ("a", "b"))), ("maybe", "a")))), shortest_never(ends)
+(('never', ((1,), ('stuck',))), None)
+'''
+
+CHOICES = '''
+>>> from nodoubt.choices import accepts_round, parts_conflicts, smallest_choice, told_round
+>>> from nodoubt.colors import accepts_colors, color_grounds, color_number, greatest_crowd, separates, told_coloring
+>>> three = ("many", ("join", (("maybe", "a"), ("maybe", "a"), ("maybe", "a"))))
+>>> color_number(three), told_coloring(three), greatest_crowd(three), told_round(three)
+(3, (0, 1, 2), (0, 1, 2), (0, 1, 2))
+>>> two = ("or", (("join", ("a", "b")), ("join", ("a", "c")), "b"))
+>>> color_number(two), told_coloring(two), smallest_choice(two), parts_conflicts(two, (2,)), smallest_choice(three) is None
+(2, (0, 0, 1, 0, 0), (0,), True, True)
+>>> separates(two, (3, 0, 4, 0, 0)), separates(two, (1, 0, 1, 0, 0)), accepts_round(three, (1, 2, 0)), accepts_round(two, (0, 2, 0))
+(True, False, True, False)
+>>> color_grounds(two), accepts_colors(three, 2, ((0, 1, 0), (0, 1)))
+(((0, 0, 1, 0, 0), (0, 2)), False)
+'''
+
 POINT_18 = '''
 >>> from nodoubt.expressions import matches, places, sizes
 >>> some = ("join", (("many", "a"), "b", ("or", ("c", "d"))))
@@ -213,6 +242,29 @@ False
 '''
 
 
+POINT_104 = '''
+>>> from nodoubt.automata import automaton_of
+>>> from nodoubt.certificates import can_be_sure, certificate
+>>> from nodoubt.orbits import consistent, goes_round, orbits, system_of
+>>> pairs = ("join", (("many", ("join", ("a", "b"))), ("maybe", "a")))
+>>> system = system_of(automaton_of(pairs))
+>>> orbits(system), goes_round(system, 0), system[2], consistent(system)
+([(0, 1)], True, (0, 1), ())
+>>> can_be_sure(pairs), certificate(pairs)
+(False, ('never', ((), ('stuck',))))
+'''
+
+POINT_114 = '''
+>>> from nodoubt.colors import color_number, greatest_crowd
+>>> from nodoubt.doubts import conflicts
+>>> three = ("many", ("join", (("maybe", "a"), ("maybe", "a"), ("maybe", "a"))))
+>>> conflicts(three)
+[(0, 1), (0, 2), (1, 2)]
+>>> color_number(three), greatest_crowd(three)
+(3, (0, 1, 2))
+'''
+
+
 class Examples(unittest.TestCase):
     def check(self, name, text):
         example = doctest.DocTestParser().get_doctest(text, {}, name, None, None)
@@ -267,3 +319,15 @@ class Examples(unittest.TestCase):
 
     def test_point_93(self):
         self.check("point 93", POINT_93)
+
+    def test_certificates(self):
+        self.check("certificates", CERTIFICATES)
+
+    def test_colors_and_choices(self):
+        self.check("colors and choices", CHOICES)
+
+    def test_point_104(self):
+        self.check("point 104", POINT_104)
+
+    def test_point_114(self):
+        self.check("point 114", POINT_114)

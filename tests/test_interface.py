@@ -56,12 +56,27 @@ INTERFACE = {
     "nodoubt.making": {
         "made": ["expression"], "count_made": ["expression"], "made_behind": ["expression", "word"],
     },
+    "nodoubt.certificates": {
+        "certificate": ["expression"], "shortest_never": ["expression"], "accepts": ["expression", "value"],
+        "can_be_sure": ["expression"],
+    },
+    "nodoubt.colors": {
+        "separates": ["expression", "value"], "color_number": ["expression"], "told_coloring": ["expression"],
+        "greatest_crowd": ["expression"], "accepts_colors": ["expression", "number", "value"],
+        "color_grounds": ["expression"],
+    },
+    "nodoubt.choices": {
+        "parts_conflicts": ["expression", "value"], "smallest_choice": ["expression"], "told_round": ["expression"],
+        "accepts_round": ["expression", "value"],
+    },
+    "nodoubt.scanning": {"scan": ["text"]},
 }
 
 ARGUMENTS = {
     "expression": ("many", ("or", ("a", "b"))), "word": "aba", "order": "bcda", "place": 1, "value": (0, 1, 0),
     "length": 3, "first": ("many", "a"), "second": ("maybe", "b"), "automaton": ((True,), ((0, "a", 0),)),
     "index": 5, "many": 3, "system": ((0, 1), ((0, "a", 1), (1, "b", 0)), (0, 1)), "state": 1, "path": (0, 1),
+    "number": 1, "text": "a (b|c)*",
 }
 
 
