@@ -13,12 +13,12 @@ LONG_BOUNDS = (40, 40, 200)
 
 def is_expression(value):
     """Returns True if the value is an expression."""
-    return _sizes_within(value, BOUNDS) is not None
+    return sizes_within(value, BOUNDS) is not None
 
 
 def is_long(value):
     """Returns True if the value is a long expression."""
-    return _sizes_within(value, LONG_BOUNDS) is not None
+    return sizes_within(value, LONG_BOUNDS) is not None
 
 
 def is_word(value):
@@ -42,7 +42,7 @@ def places(expression):
 def sizes(expression):
     """Returns how many places, how deep and how many parts the expression has."""
     check_long(expression)
-    return _sizes_within(expression, LONG_BOUNDS)
+    return sizes_within(expression, LONG_BOUNDS)
 
 
 def is_letter(value):
@@ -75,7 +75,7 @@ def check_word(value):
         raise BadValue("word")
 
 
-def _sizes_within(value, bounds):
+def sizes_within(value, bounds):
     """Returns the sizes of the value, or None if it is no expression within the bounds."""
     most_places, most_deep, most_parts = bounds
     many_places, deepest, many_parts = 0, 0, 1

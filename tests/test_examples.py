@@ -3,6 +3,9 @@
 import doctest
 import unittest
 
+from nodoubt.errors import TextError
+from nodoubt.reading import read_expression
+
 EXPRESSIONS = '''
 >>> from nodoubt.expressions import is_expression, matches, places, sizes
 >>> from nodoubt.simple import greatest_length, least_length, renamed, simple, turned
@@ -160,6 +163,43 @@ CHOICES = '''
 (((0, 0, 1, 0, 0), (0, 2)), False)
 '''
 
+READING = '''
+>>> from nodoubt.reading import next_tokens, read_expression, read_word
+>>> from nodoubt.writing import expression_text, word_text
+>>> read_expression("a*b(c|d)?")
+('join', (('many', 'a'), 'b', ('maybe', ('or', ('c', 'd')))))
+>>> read_expression("((a)b)c|.|(d|a)"), read_word("abba"), read_word(".")
+(('or', (('join', ('a', 'b', 'c')), '', 'd', 'a')), 'abba', '')
+>>> expression_text(("many", ("join", ("a", ("or", ("b", "")))))), word_text("")
+('(a(b|.))*', '.')
+>>> next_tokens("(a", "expression"), next_tokens("a|", "expression"), next_tokens("", "word")
+(['a letter', '"("', '")"', '"|"', '"?"', '"*"', '"."'], ['a letter', '"("', '"."'], ['a letter', '"."'])
+'''
+
+# The document tells in words what the last call raises.
+READING_WRONG = '''
+>>> from nodoubt.reading import read_expression
+>>> read_expression("abcd abcd a")
+Traceback (most recent call last):
+nodoubt.errors.TextError: column 11: there are at most 8 letters
+'''
+
+JOURNALS = '''
+>>> from nodoubt.journals import are_right, replayed
+>>> from nodoubt.reader import Reader
+>>> reader = Reader(("join", (("many", "a"), "b", ("or", ("c", "d")))))
+>>> reader.may_follow(), reader.may_end(), reader.first_rest()
+('ab', False, 'bc')
+>>> reader.act(("read", "a")), reader.act(("read", "a")), reader.act(("read", "b")), reader.places(), reader.may_follow()
+(1, 2, 3, (0, 0, 1), 'cd')
+>>> reader.act(("read", "d")), reader.word(), reader.may_end(), reader.may_follow(), reader.act(("back",)), reader.word()
+(4, 'aabd', True, '', 5, 'aab')
+>>> are_right(("many", "a"), ((("read", "a"), 0, "aa"), (("back",), None, ""))), are_right(("many", "a"), ((("read", "a"), 0, "b"),))
+(True, False)
+>>> reader.undo(), reader.word(), replayed(("many", "a"), (("read", "a"), ("read", "a"))).places()
+(('back',), 'aabd', (0, 0))
+'''
+
 POINT_18 = '''
 >>> from nodoubt.expressions import matches, places, sizes
 >>> some = ("join", (("many", "a"), "b", ("or", ("c", "d"))))
@@ -265,6 +305,24 @@ POINT_114 = '''
 '''
 
 
+POINT_125 = '''
+>>> from nodoubt.reading import read_expression
+>>> read_expression("a*b(c|d)?")
+('join', (('many', 'a'), 'b', ('maybe', ('or', ('c', 'd')))))
+>>> from nodoubt.writing import expression_text
+>>> expression_text(('join', (('many', 'a'), 'b', ('maybe', ('or', ('c', 'd'))))))
+'a*b(c|d)?'
+'''
+
+POINT_136 = '''
+>>> from nodoubt.journals import replayed
+>>> from nodoubt.reading import read_expression
+>>> reader = replayed(read_expression("a*b(c|d)"), (("read", "a"), ("read", "a"), ("read", "b")))
+>>> reader.word(), reader.may_follow(), reader.may_end()
+('aab', 'cd', False)
+'''
+
+
 class Examples(unittest.TestCase):
     def check(self, name, text):
         example = doctest.DocTestParser().get_doctest(text, {}, name, None, None)
@@ -331,3 +389,21 @@ class Examples(unittest.TestCase):
 
     def test_point_114(self):
         self.check("point 114", POINT_114)
+
+    def test_reading_and_writing(self):
+        self.check("reading and writing", READING)
+        self.check("reading what is wrong", READING_WRONG)
+
+    def test_the_error_of_the_last_example(self):
+        with self.assertRaises(TextError) as caught:
+            read_expression("abcd abcd a")
+        self.assertEqual((caught.exception.column, caught.exception.words), (11, "there are at most 8 letters"))
+
+    def test_readers_and_journals(self):
+        self.check("readers and journals", JOURNALS)
+
+    def test_point_125(self):
+        self.check("point 125", POINT_125)
+
+    def test_point_136(self):
+        self.check("point 136", POINT_136)

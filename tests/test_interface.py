@@ -1,8 +1,11 @@
 """The names, files and arguments of the interface, and point 2."""
 
+import ast
 import importlib
 import inspect
 import unittest
+
+from nodoubt.reader import Reader
 
 INTERFACE = {
     "nodoubt.errors": {
@@ -70,14 +73,34 @@ INTERFACE = {
         "accepts_round": ["expression", "value"],
     },
     "nodoubt.scanning": {"scan": ["text"]},
+    "nodoubt.reading": {
+        "next_tokens": ["text", "kind"], "read_expression": ["text"], "read_long": ["text"], "read_word": ["text"],
+    },
+    "nodoubt.writing": {"expression_text": ["expression"], "word_text": ["word"]},
+    "nodoubt.reader": {"Reader": ["expression"]},
+    "nodoubt.journals": {"replayed": ["expression", "journal"], "are_right": ["expression", "records"]},
+}
+
+# What the document says is a list; everything else is none.
+LISTS = ["candidates", "conflicts", "orbits", "simple_paths", "words_from", "scan", "next_tokens"]
+
+METHODS = {
+    "act": ["command"], "undo": [], "word": [], "places": [], "journal": [], "may_follow": [], "may_end": [],
+    "first_rest": [], "records": [], "twin": [],
 }
 
 ARGUMENTS = {
     "expression": ("many", ("or", ("a", "b"))), "word": "aba", "order": "bcda", "place": 1, "value": (0, 1, 0),
     "length": 3, "first": ("many", "a"), "second": ("maybe", "b"), "automaton": ((True,), ((0, "a", 0),)),
     "index": 5, "many": 3, "system": ((0, 1), ((0, "a", 1), (1, "b", 0)), (0, 1)), "state": 1, "path": (0, 1),
-    "number": 1, "text": "a (b|c)*",
+    "number": 1, "text": "a b", "kind": "word", "journal": (("read", "a"), ("back",)), "records": ((("read", "a"), 0, "b"),),
 }
+
+
+def compared(value):
+    """The value, or what a reader tells, as readers are not compared."""
+    return [value.word(), value.journal(), value.records()] if isinstance(value, Reader) else value
+
 
 
 class Interface(unittest.TestCase):
@@ -95,6 +118,32 @@ class Interface(unittest.TestCase):
                 for name, arguments in names.items():
                     function = getattr(importlib.import_module(module), name)
                     given = {each: ARGUMENTS[each] for each in arguments}
-                    first = function(**given)
-                    self.assertEqual(function(*given.values()), first)
+                    first = compared(function(**given))
+                    self.assertEqual(compared(function(*given.values())), first)
                     self.assertEqual(given, {each: ARGUMENTS[each] for each in arguments})
+
+    def test_methods(self):
+        for name, arguments in METHODS.items():
+            method = vars(Reader)[name]
+            self.assertEqual(list(inspect.signature(method).parameters), ["self"] + arguments)
+            self.assertEqual(method.__module__, "nodoubt.reader")
+
+    def test_what_is_listed_is_defined_in_its_own_file(self):
+        for module, names in INTERFACE.items():
+            tree = ast.parse(inspect.getsource(importlib.import_module(module)))
+            defined = [node.name for node in tree.body if isinstance(node, (ast.FunctionDef, ast.ClassDef))]
+            self.assertEqual([name for name in names if name not in defined], [])
+
+    def test_lists_are_new_and_tuples_are_tuples(self):
+        for module, names in INTERFACE.items():
+            if module != "nodoubt.errors":
+                for name, arguments in names.items():
+                    function = getattr(importlib.import_module(module), name)
+                    given = [ARGUMENTS[each] for each in arguments]
+                    found = function(*given)
+                    self.assertEqual(type(found) is list, name in LISTS, name)
+                    if name in LISTS:
+                        before = list(found)
+                        found.append(None)
+                        self.assertEqual(function(*given), before, name)
+                        self.assertIsNot(function(*given), function(*given))

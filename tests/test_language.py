@@ -4,6 +4,7 @@ import ast
 import builtins
 import re
 import unittest
+from functools import lru_cache
 from pathlib import Path
 
 PACKAGE = Path(__file__).resolve().parent.parent / "nodoubt"
@@ -37,6 +38,7 @@ def nodes(path):
     return list(ast.walk(ast.parse(path.read_text())))
 
 
+@lru_cache(maxsize=None)
 def own_methods():
     """The names of the methods that the package defines."""
     classes = [node for path in files() for node in nodes(path) if isinstance(node, ast.ClassDef)]
