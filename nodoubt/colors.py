@@ -100,13 +100,13 @@ def accepts_colors(expression, number, value):
     coloring, crowd = value
     if not _separates(expression, number, coloring) or not is_row(steps_of(expression), crowd):
         return False
-    return len(crowd) == _crowd_size(number) and _is_crowd(conflicts(expression), crowd)
+    return _is_crowd_size(number, len(crowd)) and _is_crowd(conflicts(expression), crowd)
 
 
-def _crowd_size(number):
-    """Returns how many places the crowd of grounds for so many colors has."""
-    # One color needs no places to show that there are not fewer, and there can be none.
-    return 0 if number == 1 else number
+def _is_crowd_size(number, size):
+    """Returns True if the crowd of grounds for so many colors can have so many places."""
+    # One color needs no place to show that there are not fewer, and there can be none.
+    return size == number or (number == 1 and size == 0)
 
 
 def color_grounds(expression):

@@ -88,6 +88,8 @@ class Numbers(unittest.TestCase):
         self.assertEqual(color_grounds(expression), told, (expression, pairs))
         for other in range(1, 9):
             self.assertIs(accepts_colors(expression, other, grounds), told is not None and other == number)
+            self.assertIs(accepts_colors(expression, other, (coloring, crowd)), len(crowd) == other == number or
+                          many == 0 and other == 1)
         # At most one more than the most conflicts of a place; and a place without one has the color 0.
         near = [sum(place in pair for pair in pairs) for place in range(many)]
         self.assertLessEqual(number, 1 + max(near, default=0))
@@ -259,17 +261,36 @@ class AcceptsColors(unittest.TestCase):
                     accepted += told
         self.assertGreater(accepted, 1000)
 
-    def test_one_color_only_with_the_empty_crowd(self):
+    def test_one_color(self):
+        # The crowd has one place, whichever it is, or it is empty; color_grounds returns the empty one.
         for expression in ("a", CLEAR, ("join", ("a",) * 8)):
             coloring = told_coloring(expression)
-            self.assertIs(accepts_colors(expression, 1, (coloring, ())), True)
-            for crowd in ((0,), (len(coloring) - 1,), (0, 1), [], None, "", ((),), (1, 0), (9,)):
+            many = len(coloring)
+            self.assertEqual(color_grounds(expression), (coloring, ()))
+            for crowd in [()] + [(place,) for place in range(many)]:
+                self.assertIs(accepts_colors(expression, 1, (coloring, crowd)), True, crowd)
+                for number in range(2, 9):
+                    self.assertIs(accepts_colors(expression, number, (coloring, crowd)), False, (number, crowd))
+                for wrong in ((1,) * many, (0,) * (many - 1) + (1,), (0,) * (many + 1), coloring[1:], [0] * many,
+                              (False,) * many, None):
+                    self.assertIs(accepts_colors(expression, 1, (wrong, crowd)), False, (wrong, crowd))
+            for crowd in ((many,), (-1,), (9,), (0, 0), (0, 1), (1, 0), (0, many - 1), (0, 1, 2), [], [0], {0: 0}, {0},
+                          None, 0, "", "0", ("0",), ((),), ((0,),), (None,), (False,), (True,), (0.0,), (10 ** 30,)):
                 self.assertIs(accepts_colors(expression, 1, (coloring, crowd)), False, crowd)
-            for number in range(2, 9):
-                self.assertIs(accepts_colors(expression, number, (coloring, ())), False)
-                self.assertIs(accepts_colors(expression, number, (coloring, (0,))), False)
-        self.assertIs(accepts_colors("", 1, ((), ())), True)
-        self.assertIs(accepts_colors("", 2, ((), ())), False)
+
+    def test_one_color_without_places(self):
+        for expression in ("", ("or", ("", "")), ("many", ("maybe", ""))):
+            self.assertIs(accepts_colors(expression, 1, ((), ())), True)
+            self.assertIs(accepts_colors(expression, 2, ((), ())), False)
+            for crowd in ((0,), (-1,), (1,), (0, 1), [], None, ((),)):
+                self.assertIs(accepts_colors(expression, 1, ((), crowd)), False, crowd)
+
+    def test_one_color_where_there_are_conflicts(self):
+        for expression in (TWO, THREE, EIGHT):
+            many = len(leaf_letters(expression))
+            for crowd in [()] + [(place,) for place in range(many)]:
+                for coloring in ((0,) * many, told_coloring(expression)):
+                    self.assertIs(accepts_colors(expression, 1, (coloring, crowd)), False, (coloring, crowd))
 
     def test_wrong_ones(self):
         good = (0, 0, 1, 0, 0), (0, 2)
@@ -319,7 +340,7 @@ def told_accepts(pairs, many, number, coloring, row):
         return False
     if any(place not in range(many) for place in row) or any(pair not in pairs for pair in combinations(row, 2)):
         return False
-    return len(row) == (0 if number == 1 else number)
+    return len(row) == number or number == 1 and row == ()
 
 
 class Wrong(unittest.TestCase):
